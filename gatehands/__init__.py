@@ -1,0 +1,1 @@
+"""Gates of several hands, built of boxes that are read and written."""
