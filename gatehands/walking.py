@@ -46,9 +46,12 @@ def outside(gate, state):
 
 
 def check_hand(gate, hand):
-    """Refuse a hand that there isn't; Python itself would count one below 0 from the end."""
+    """Refuse a hand that there isn't; Python itself would count one below 0 from the end.
+
+    The message leaves the number out, as Python does not write one of very many figures.
+    """
     if not 0 <= hand < gate.many():
-        raise NoHand(f"there is no hand {hand}")
+        raise NoHand("there is no such hand")
 
 
 def replaced(numbers, at, number):

@@ -18,8 +18,14 @@ INTERFACE = {
         "begin": ["gate"], "done": ["gate", "state", "hand"], "played": ["gate", "weaving"],
         "within": ["gate", "state"], "waiting": ["gate", "state"], "outside": ["gate", "state"],
     },
+    "maps.py": {"Map": ["gate"]},
+    "looking.py": {"two_within": ["gate"], "shut": ["gate"], "hung": ["gate"], "held_up": ["gate", "state", "hand"]},
+    "passing.py": {"passed": ["gate", "hand"]},
 }
-METHODS = {("gates.py", "Gate"): {"boxes", "hands", "many"}}
+METHODS = {
+    ("gates.py", "Gate"): {"boxes", "hands", "many"},
+    ("maps.py", "Map"): {"states", "steps", "weaving_to"},
+}
 
 BARRED = (
     "type", "typing", "typing_extensions", "enum", "Enum", "IntEnum", "StrEnum", "Flag", "IntFlag", "Generic",

@@ -5,8 +5,8 @@ import unittest
 
 from gatehands.errors import BadGate, GateError
 from gatehands.gates import Gate
+from tests.some_gates import IN, peterson_parts
 
-IN = ("in",)
 BOX = (0, 1)
 PLAIN = (1, [("put", 0, 1), IN])
 LONG = (1, [("put", 0, 1)] + [("go", 0, (), 1)] * 22 + [IN])
@@ -14,13 +14,6 @@ LONG = (1, [("put", 0, 1)] + [("go", 0, (), 1)] * 22 + [IN])
 
 def hand(*steps, knock=1):
     return (knock, list(steps))
-
-
-def peterson():
-    boxes = [(0, 1), (0, 1), (0, 1)]
-    first = (2, [("put", 0, 1), ("put", 2, 1), ("go", 1, (0,), 4), ("go", 2, (1,), 2), IN, ("put", 0, 0)])
-    second = (2, [("put", 1, 1), ("put", 2, 0), ("go", 0, (0,), 4), ("go", 2, (0,), 2), IN, ("put", 1, 0)])
-    return boxes, [first, second]
 
 
 class GateTest(unittest.TestCase):
@@ -54,7 +47,7 @@ class GateTest(unittest.TestCase):
 class GatesThatCanBe(GateTest):
 
     def test_an_ordinary_gate(self):
-        self.accepted(*peterson())
+        self.accepted(*peterson_parts())
 
     def test_one_box_and_one_hand(self):
         self.accepted([BOX], [PLAIN])
@@ -214,7 +207,7 @@ class TheFirstRefusal(GateTest):
 class NothingIsShared(GateTest):
 
     def test_what_was_handed_in_may_be_changed_behind(self):
-        boxes, hands = peterson()
+        boxes, hands = peterson_parts()
         gate = Gate(boxes, hands)
         for knock, steps in hands:
             steps[0] = ("put", 0, 0)
@@ -222,16 +215,16 @@ class NothingIsShared(GateTest):
         boxes[0] = (1, 1)
         boxes.append((0, 9))
         hands.pop()
-        self.assertEqual((gate.boxes(), gate.hands()), peterson())
+        self.assertEqual((gate.boxes(), gate.hands()), peterson_parts())
         self.assertEqual(gate.many(), 2)
 
     def test_what_was_given_back_may_be_changed(self):
-        gate = Gate(*peterson())
+        gate = Gate(*peterson_parts())
         for knock, steps in gate.hands():
             steps.clear()
         gate.hands().clear()
         gate.boxes().clear()
-        self.assertEqual((gate.boxes(), gate.hands()), peterson())
+        self.assertEqual((gate.boxes(), gate.hands()), peterson_parts())
         self.assertEqual(gate.many(), 2)
 
     def test_hands_that_share_a_list_are_given_back_apart(self):
@@ -242,8 +235,8 @@ class NothingIsShared(GateTest):
         self.assertEqual(given[1], (1, [("put", 0, 1), IN]))
 
     def test_two_gates_stand_apart(self):
-        gate, other = Gate(*peterson()), Gate([BOX], [PLAIN])
-        self.assertEqual((gate.boxes(), gate.hands()), peterson())
+        gate, other = Gate(*peterson_parts()), Gate([BOX], [PLAIN])
+        self.assertEqual((gate.boxes(), gate.hands()), peterson_parts())
         self.assertEqual((other.boxes(), other.hands(), other.many()), ([BOX], [PLAIN], 1))
 
 

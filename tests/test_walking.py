@@ -7,8 +7,7 @@ import unittest
 from gatehands.errors import GateError, NoHand
 from gatehands.gates import Gate
 from gatehands.walking import begin, done, outside, played, waiting, within
-
-IN = ("in",)
+from tests.some_gates import IN, some_boxes, some_hand, some_state, stepped
 
 
 def small():
@@ -41,47 +40,9 @@ def all_states(gate):
             yield held, at
 
 
-def told_again(gate, state, hand):
-    """What point 4 says of a step, once more and by another way."""
-    boxes, places = list(state[0]), list(state[1])
-    steps = gate.hands()[hand][1]
-    step = steps[places[hand]]
-    order = list(range(1, len(steps))) + [0]
-    behind = order[places[hand]]
-    if len(step) == 3:
-        boxes[step[1]] = step[2]
-    if len(step) == 4 and step[2].count(boxes[step[1]]) > 0:
-        behind = step[3]
-    places[hand] = behind
-    return tuple(boxes), tuple(places)
-
-
-def some_step(chance, boxes, many):
-    box = chance.randrange(len(boxes))
-    most = boxes[box][1]
-    if chance.random() < 0.5:
-        return ("put", box, chance.randint(0, most))
-    numbers = tuple(number for number in range(most + 1) if chance.random() < 0.5)
-    return ("go", box, numbers, chance.randint(1, many - 1))
-
-
-def some_hand(chance, boxes):
-    many = chance.randint(2, 24)
-    steps = [some_step(chance, boxes, many) for number in range(many)]
-    place = chance.randint(1, many - 1)
-    steps[place] = IN
-    return (chance.randint(1, place), steps)
-
-
 def some_gate(chance):
-    mosts = [chance.randint(0, 9) for number in range(chance.randint(1, 12))]
-    boxes = [(chance.randint(0, most), most) for most in mosts]
-    return Gate(boxes, [some_hand(chance, boxes) for number in range(chance.randint(1, 4))])
-
-
-def some_state(chance, gate):
-    boxes = tuple(chance.randint(0, most) for first, most in gate.boxes())
-    return boxes, tuple(chance.randrange(len(steps)) for knock, steps in gate.hands())
+    boxes = some_boxes(chance, chance.randint(1, 12), 9)
+    return Gate(boxes, [some_hand(chance, boxes, 2, 24) for number in range(chance.randint(1, 4))])
 
 
 class WalkingTest(unittest.TestCase):
@@ -173,7 +134,7 @@ class Steps(WalkingTest):
         gate = small()
         for state in all_states(gate):
             for hand in range(2):
-                self.assertEqual(done(gate, state, hand), told_again(gate, state, hand), (state, hand))
+                self.assertEqual(done(gate, state, hand), stepped(gate, state, hand), (state, hand))
 
     def test_steps_of_many_gates(self):
         chance = random.Random(20)
@@ -183,7 +144,7 @@ class Steps(WalkingTest):
             for again in range(10):
                 state = some_state(chance, gate)
                 for hand in range(gate.many()):
-                    self.assertEqual(done(gate, state, hand), told_again(gate, state, hand))
+                    self.assertEqual(done(gate, state, hand), stepped(gate, state, hand))
             self.assertEqual((gate.boxes(), gate.hands()), before)
 
     def test_no_hand(self):
@@ -298,7 +259,7 @@ class Weavings(WalkingTest):
         self.assertEqual(len(states), 302)
         self.assertEqual(states[0], begin(gate))
         for number, hand in enumerate(weaving):
-            self.assertEqual(states[number + 1], told_again(gate, states[number], hand))
+            self.assertEqual(states[number + 1], stepped(gate, states[number], hand))
 
     def test_a_somewhat_longer_weaving(self):
         self.assertEqual(len(played(line(2), [0, 1] * 200)), 401)
