@@ -7,7 +7,7 @@ import unittest
 from gatehands.errors import GateError, NoHand
 from gatehands.gates import Gate
 from gatehands.walking import begin, done, outside, played, waiting, within
-from tests.some_gates import IN, some_boxes, some_hand, some_state, stepped
+from tests.some_gates import FAR, IN, some_boxes, some_hand, some_state, stepped
 
 
 def small():
@@ -152,6 +152,9 @@ class Steps(WalkingTest):
             state = begin(gate)
             for hand in (-gate.many() - 1, -gate.many(), -2, -1, gate.many(), gate.many() + 1, 99):
                 self.no_hand(done, gate, state, hand)
+            for far in FAR:
+                self.no_hand(done, gate, state, far)
+                self.no_hand(done, gate, state, -far)
             done(gate, state, 0)
             done(gate, state, gate.many() - 1)
 
@@ -276,6 +279,9 @@ class Weavings(WalkingTest):
                 self.no_hand(played, gate, [hand])
                 self.no_hand(played, gate, [0, hand, 0])
                 self.no_hand(played, gate, [0] * 300 + [hand])
+            for far in FAR:
+                self.no_hand(played, gate, [far])
+                self.no_hand(played, gate, [0, -far, 0])
 
     def test_the_weaving_stays_as_it_is(self):
         weaving = [0, 1, 1, 0]
