@@ -8,6 +8,10 @@ MOST_HANDS = 4
 FEWEST_STEPS = 2
 MOST_STEPS = 24
 
+IN = ("in",)
+# Reads, and goes on with the next step whatever the box holds.
+IDLE = ("go", 0, (), 1)
+
 
 class Gate:
     """A gate that can be; it never changes.
@@ -80,7 +84,7 @@ def can_be_step(boxes, many, step):
         return can_be_put(boxes, step[1], step[2])
     if step[0] == "go":
         return can_be_read(boxes, step[1], step[2]) and 1 <= step[3] < many
-    return step == ("in",)
+    return step == IN
 
 
 def can_be_put(boxes, box, number):
@@ -102,4 +106,4 @@ def can_be_read(boxes, box, numbers):
 
 def places_of_in(steps):
     """List the numbers of the steps at which a hand is within."""
-    return [number for number, step in enumerate(steps) if step == ("in",)]
+    return [number for number, step in enumerate(steps) if step == IN]

@@ -1,12 +1,9 @@
 """What may not be: two within, one shut out by nobody, hands that hang, and hands that are held up."""
 
-from gatehands.gates import Gate
+from gatehands.gates import IDLE, Gate
 from gatehands.graphs import leading_to
 from gatehands.maps import Map
 from gatehands.walking import check_hand, done, outside, waiting, within
-
-# Reads, and goes on with the next step whatever the box holds.
-IDLE = ("go", 0, (), 1)
 
 
 def two_within(gate):
